@@ -7,6 +7,10 @@ SEND = 2
 CAME = 3
 TICK = 4
 NEXT = 5
+LOOK = 6
+HEARD = 7
+FORGET = 8
+LIST = 9
 
 
 class UnknownCall(ValueError):
@@ -54,6 +58,18 @@ def answer_came(link, reader):
     return link.came(now, sender, row)
 
 
+def answer_heard(link, reader):
+    now = reader.take_number()
+    address = reader.take_number()
+    return link.heard(now, address)
+
+
+def answer_forget(link, reader):
+    now = reader.take_number()
+    address = reader.take_number()
+    return link.forget(now, address)
+
+
 def answer_call(link, reader):
     number = reader.take_number()
     if number == BEGIN:
@@ -66,6 +82,14 @@ def answer_call(link, reader):
         return link.tick(reader.take_number())
     if number == NEXT:
         return link.next_due()
+    if number == LOOK:
+        return link.look(reader.take_number())
+    if number == HEARD:
+        return answer_heard(link, reader)
+    if number == FORGET:
+        return answer_forget(link, reader)
+    if number == LIST:
+        return link.list_addresses()
     raise UnknownCall(f"no call {number}")
 
 

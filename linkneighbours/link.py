@@ -1,7 +1,7 @@
 """One link: what is ours, what time it is, who the neighbours are, and the calls about them."""
 
 from linkneighbours.neighbour import ASKED_FOR, KNOWN, OLD, Neighbour
-from linkneighbours.wanted import NOBODY_ANSWERS, NO_ROOM, TOO_MANY_WAIT, Wanted
+from linkneighbours.wanted import FORGOTTEN, NOBODY_ANSWERS, NO_ROOM, TOO_MANY_WAIT, Wanted
 from linkneighbours.words import ANSWERED, ASKED, EVERYBODY, EVERYBODY_ON_LINK, LAST_PACKET, Message
 from linkneighbours.words import may_have_address, may_have_link_address, read_message
 
@@ -80,6 +80,38 @@ class Link:
         if len(times) == 0:
             return [NOTHING]
         return [FINE, min(times)]
+
+    def look(self, address):
+        neighbour = self.neighbours.get(address)
+        if neighbour is None:
+            return [NOTHING]
+        return neighbour.looked_at()
+
+    def heard(self, now, address):
+        refusal = self.refuse_now(now)
+        if refusal != FINE:
+            return [refusal]
+        wanted = self.go_on_to(now)
+        neighbour = self.neighbours.get(address)
+        # Its link address stays and no packet waits, so there is nothing to tell or to pass, as know would.
+        if neighbour is not None and neighbour.standing != ASKED_FOR:
+            neighbour.become_known(neighbour.link_address, now)
+        return wanted.told()
+
+    def forget(self, now, address):
+        refusal = self.refuse_now(now)
+        if refusal != FINE:
+            return [refusal]
+        wanted = self.go_on_to(now)
+        if address in self.neighbours:
+            self.lose(self.neighbours[address], FORGOTTEN, wanted)
+        return wanted.told()
+
+    # A dict keeps the order in which keys came, and one that goes is taken out: so they lie as they came to be there.
+    def list_addresses(self):
+        numbers = [len(self.neighbours)]
+        numbers.extend(list(self.neighbours))
+        return numbers
 
     def refuse_now(self, now):
         if now > LAST_NOW:

@@ -2,6 +2,7 @@
 
 from linkneighbours.words import EVERYBODY_ON_LINK
 
+# These are also what a look at one tells first.
 ASKED_FOR = 1
 KNOWN = 2
 OLD = 3
@@ -46,6 +47,15 @@ class Neighbour:
     def become_asked_again(self):
         self.standing = ASKED_AGAIN
         self.asked = 0
+
+    def looked_at(self):
+        if self.standing == ASKED_FOR:
+            return [ASKED_FOR, self.asked, len(self.waiting), self.due]
+        if self.standing == KNOWN:
+            return [KNOWN, self.link_address, self.due]
+        if self.standing == OLD:
+            return [OLD, self.link_address]
+        return [ASKED_AGAIN, self.link_address, self.asked, self.due]
 
     def take_waiting(self):
         packets = self.waiting

@@ -35,6 +35,22 @@ def due():
     return [5]
 
 
+def look(address):
+    return [6, address]
+
+
+def heard(now, address):
+    return [7, now, address]
+
+
+def forget(now, address):
+    return [8, now, address]
+
+
+def listing():
+    return [9]
+
+
 def message(what, link_address, address, about):
     row = what.to_bytes(2, "big") + link_address.to_bytes(6, "big")
     row += address.to_bytes(4, "big") + about.to_bytes(4, "big") + bytes(4)
@@ -127,6 +143,20 @@ def become_old(address, now=0, link_address=THEIRS):
 def become_asked_again(address, now=0, link_address=THEIRS):
     """It is asked again 30000 after now; packet 99 is passed."""
     return become_old(address, now, link_address) + [send(now + 30000, address, 99)]
+
+
+def behind(calls, call):
+    """Give what the call answers behind these; none of these may be refused."""
+    told = run(calls + [call])
+    for each in told[:-1]:
+        if each[0] in (-1, -3, -4):
+            raise AssertionError(f"refused: {told}")
+    return told[-1]
+
+
+def all_of(*addresses):
+    """Give calls that tell all that may be told of these, and change nothing."""
+    return [listing(), due()] + [look(address) for address in addresses]
 
 
 def refused(test, before, call, code, after):
